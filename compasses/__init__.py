@@ -1,0 +1,1 @@
+"""What ruler and compasses reach."""
