@@ -5,6 +5,7 @@ then a number b with j - 1 roots, and it is a + b r, where r is the j-th root.
 d has the parts of all radicands, one behind another.
 """
 
+NO_REFUSAL = 0
 NOT_ALLOWED = -2
 NOT_ABOVE_ZERO = -3
 
@@ -15,11 +16,28 @@ FARTHEST_IN_NUMBERS = 1000
 
 def sign(k, d, x):
     """Answer [2] if x is above 0, [1] if it is 0, [0] if it is below; or a refusal."""
-    if not is_allowed(k, d, [x]):
-        return [NOT_ALLOWED]
-    if not has_roots(k, d):
-        return [NOT_ABOVE_ZERO]
+    refusal = refusal_of(k, d, [x])
+    if refusal != NO_REFUSAL:
+        return [refusal]
     return [side_of_zero(d, x) + 1]
+
+
+def compare(k, d, x, y):
+    """Answer [2] if x is greater than y, [1] if they are the same, [0] if y is greater; or a refusal."""
+    # x and y are looked at as they are: what is between them may go beyond what is allowed of each.
+    refusal = refusal_of(k, d, [x, y])
+    if refusal != NO_REFUSAL:
+        return [refusal]
+    return [side_of_zero(d, difference(x, y)) + 1]
+
+
+def refusal_of(k, d, numbers):
+    """Give the refusal of k, d and the numbers, where all radicands have to be above 0."""
+    if not is_allowed(k, d, numbers):
+        return NOT_ALLOWED
+    if not has_roots(k, d):
+        return NOT_ABOVE_ZERO
+    return NO_REFUSAL
 
 
 def is_allowed(k, d, numbers):

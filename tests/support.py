@@ -43,6 +43,17 @@ def expected_side(k, d, x):
         return [2] if value > 0 else [0]
 
 
+def square_by_hand(p, q, s):
+    """Give the square of a + b r + c t + e r t, where the roots r and t are those of p and q."""
+    a, b, c, e = s
+    return [
+        a * a + p * b * b + q * c * c + p * q * e * e,
+        2 * (a * b + q * c * e),
+        2 * (a * c + p * b * e),
+        2 * (a * e + b * c),
+    ]
+
+
 def negated(x):
     return [-part for part in x]
 
@@ -85,3 +96,43 @@ class Untouchable(list):
 
     append = clear = extend = insert = pop = remove = reverse = sort = refuse_change
     __setitem__ = __delitem__ = __iadd__ = __imul__ = refuse_change
+
+
+class Manners:
+    """What holds of each function, whatever it answers: for a test case that names the function and calls of it.
+
+    The first argument of each call is a whole number, the others are lists.
+    """
+
+    function = None
+    CALLS = ()
+
+    def test_the_answer_is_a_list_of_one_whole_number(self):
+        for call in self.CALLS:
+            answer = self.function(*call)
+            self.assertIs(type(answer), list)
+            self.assertEqual([type(number) for number in answer], [int])
+
+    def test_the_answer_is_new_each_time(self):
+        for call in self.CALLS:
+            first = self.function(*call)
+            kept = list(first)
+            first.append(9)
+            first[0] = 9
+            self.assertEqual(self.function(*call), kept)
+
+    def test_nothing_is_kept_between_calls(self):
+        there = [self.function(*call) for call in self.CALLS]
+        back = [self.function(*call) for call in reversed(self.CALLS)]
+        self.assertEqual(there, back[::-1])
+
+    def test_what_is_handed_in_is_not_changed(self):
+        for k, *rows in self.CALLS:
+            plain = [list(row) for row in rows]
+            answer = self.function(k, *plain)
+            self.assertEqual(plain, rows)
+            self.assertEqual(self.function(k, *[Untouchable(row) for row in rows]), answer)
+
+    def test_nothing_is_printed(self):
+        for call in self.CALLS:
+            self.assertEqual(printed_by(lambda: self.function(*call)), "")

@@ -3,23 +3,12 @@ import unittest
 
 from compasses.reach import sign
 from tests.support import (
-    GREATEST, SMALLEST, Untouchable, expected_side, mixed_radicands, mixed_row, negated, printed_by, whole_numbers,
+    GREATEST, SMALLEST, Manners, expected_side, mixed_radicands, mixed_row, negated, square_by_hand, whole_numbers,
 )
 
 ABOVE = [2]
 ZERO = [1]
 BELOW = [0]
-
-
-def square_by_hand(p, q, s):
-    """Give the square of a + b r + c t + e r t, where the roots r and t are those of p and q."""
-    a, b, c, e = s
-    return [
-        a * a + p * b * b + q * c * c + p * q * e * e,
-        2 * (a * b + q * c * e),
-        2 * (a * c + p * b * e),
-        2 * (a * e + b * c),
-    ]
 
 
 class SignCase(unittest.TestCase):
@@ -267,7 +256,8 @@ class RadicandsNotAboveZero(SignCase):
         self.check(3, [2, 3, 0, 0, 0, 0, -1], [0] * 7 + [1001], [-2])
 
 
-class HowItIsCalled(unittest.TestCase):
+class HowItIsCalled(Manners, unittest.TestCase):
+    function = staticmethod(sign)
     CALLS = (
         (0, [], [7]), (0, [], [0]), (1, [2], [3, -2]), (1, [4], [2, -1]), (2, [2, 3, 0], [0, 1, -1, 0]),
         (3, [2, 3, 0, 5, 0, 0, 0], [822, 50, 211, 302, 996, 150, -181, -730]),
@@ -275,41 +265,6 @@ class HowItIsCalled(unittest.TestCase):
         (1, [0], [1, 1]), (3, [2, 3, 0, 0, 0, 0, -1], [1] * 8), (1, [101], [1, 1]), (-1, [], []), (4, [], [1]),
         (0, [1] * 20, [1] * 20),
     )
-
-    def test_the_answer_is_a_list_of_one_whole_number(self):
-        for k, d, x in self.CALLS:
-            answer = sign(k, d, x)
-            self.assertIs(type(answer), list)
-            self.assertEqual([type(number) for number in answer], [int])
-
-    def test_the_answer_is_new_each_time(self):
-        for k, d, x in self.CALLS:
-            first = sign(k, d, x)
-            kept = list(first)
-            first.append(9)
-            first[0] = 9
-            self.assertEqual(sign(k, d, x), kept)
-
-    def test_nothing_is_kept_between_calls(self):
-        there = [sign(k, d, x) for k, d, x in self.CALLS]
-        back = [sign(k, d, x) for k, d, x in reversed(self.CALLS)]
-        self.assertEqual(there, back[::-1])
-
-    def test_what_is_handed_in_is_not_changed(self):
-        for k, d, x in self.CALLS:
-            plain_d, plain_x = list(d), list(x)
-            answer = sign(k, plain_d, plain_x)
-            self.assertEqual((plain_d, plain_x), (d, x))
-            self.assertEqual(sign(k, Untouchable(d), Untouchable(x)), answer)
-
-    def test_one_list_may_stand_for_both(self):
-        row = [2]
-        self.assertEqual(sign(1, row, row), [-2])
-        self.assertEqual(row, [2])
-
-    def test_nothing_is_printed(self):
-        for call in self.CALLS:
-            self.assertEqual(printed_by(lambda: sign(*call)), "")
 
 
 if __name__ == "__main__":
