@@ -9,6 +9,9 @@ NO_REFUSAL = 0
 NOT_ALLOWED = -2
 NOT_ABOVE_ZERO = -3
 
+# What times answers ahead of the parts.
+MULTIPLIED = 0
+
 MOST_ROOTS = 3
 FARTHEST_IN_RADICANDS = 100
 FARTHEST_IN_NUMBERS = 1000
@@ -29,6 +32,14 @@ def compare(k, d, x, y):
     if refusal != NO_REFUSAL:
         return [refusal]
     return [side_of_zero(d, difference(x, y)) + 1]
+
+
+def times(k, d, x, y):
+    """Answer [0, then the parts of x times y as multiplying out gives them]; or a refusal."""
+    # Multiplying out asks of a root only what its square is, so the radicands needn't be above 0.
+    if not is_allowed(k, d, [x, y]):
+        return [NOT_ALLOWED]
+    return [MULTIPLIED] + product(d, x, y)
 
 
 def refusal_of(k, d, numbers):

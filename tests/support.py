@@ -107,11 +107,14 @@ class Manners:
     function = None
     CALLS = ()
 
-    def test_the_answer_is_a_list_of_one_whole_number(self):
+    def length_of_answer(self, call):
+        return 1
+
+    def test_the_answer_is_a_list_of_so_many_whole_numbers(self):
         for call in self.CALLS:
             answer = self.function(*call)
             self.assertIs(type(answer), list)
-            self.assertEqual([type(number) for number in answer], [int])
+            self.assertEqual([type(number) for number in answer], [int] * self.length_of_answer(call))
 
     def test_the_answer_is_new_each_time(self):
         for call in self.CALLS:
