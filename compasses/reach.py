@@ -13,6 +13,7 @@ NOT_ABOVE_ZERO = -3
 MULTIPLIED = 0
 
 MOST_ROOTS = 3
+MOST_ROOTS_OF_SQUARE = 2
 FARTHEST_IN_RADICANDS = 100
 FARTHEST_IN_NUMBERS = 1000
 
@@ -40,6 +41,18 @@ def times(k, d, x, y):
     if not is_allowed(k, d, [x, y]):
         return [NOT_ALLOWED]
     return [MULTIPLIED] + product(d, x, y)
+
+
+def square(k, d, x):
+    """Answer [1] if x is the square of a number with these roots and fractions for parts, else [0]; or a refusal."""
+    if k > MOST_ROOTS_OF_SQUARE:
+        return [NOT_ALLOWED]
+    refusal = refusal_of(k, d, [x])
+    if refusal != NO_REFUSAL:
+        return [refusal]
+    if root_of(d, x) is None:
+        return [0]
+    return [1]
 
 
 def refusal_of(k, d, numbers):
@@ -96,9 +109,7 @@ def side_of_zero(d, x):
     if side_of_b == 0 or side_of_a == side_of_b:
         return side_of_a
     # a and b r pull apart, so the greater of their squares decides; that needs one root fewer.
-    square_of_a = product(d, a, a)
-    square_of_b_r = product(d, product(d, b, b), radicand(d, half))
-    return side_of_a * side_of_zero(d, difference(square_of_a, square_of_b_r))
+    return side_of_a * side_of_zero(d, norm(d, x))
 
 
 def side_of_whole(n):
@@ -108,6 +119,14 @@ def side_of_whole(n):
     if n < 0:
         return -1
     return 0
+
+
+def norm(d, x):
+    """Give the parts of a + b r times a - b r, where x is a + b r: they have one root fewer."""
+    half = len(x) // 2
+    a = x[:half]
+    b = x[half:]
+    return difference(product(d, a, a), product(d, product(d, b, b), radicand(d, half)))
 
 
 def product(d, x, y):
@@ -133,3 +152,106 @@ def total(x, y):
 def difference(x, y):
     """Give the parts of x less y."""
     return [p - q for p, q in zip(x, y)]
+
+
+def scaled(x, n):
+    """Give the parts of x times the whole number n."""
+    return [part * n for part in x]
+
+
+def with_one_root_more(x):
+    """Give the parts that tell x as a number that has a further root, and nothing beside it."""
+    return x + [0] * len(x)
+
+
+def root_of(d, x):
+    """Give a number with the roots of x whose square is x, or None if there is none.
+
+    It is a pair of numbers, both with whole parts: the first divided by the second.
+    """
+    if len(x) == 1:
+        return root_of_whole(x[0])
+    half = len(x) // 2
+    r = root_of(d, radicand(d, half))
+    if r is not None:
+        return root_where_r_is_known(d, x, r)
+    if side_of_zero(d, x[half:]) == 0:
+        return root_of_plain(d, x[:half])
+    return root_of_mixed(d, x)
+
+
+def root_of_whole(n):
+    """Do what root_of does for a number with no root."""
+    if n < 0:
+        return None
+    s = whole_part_of_root(n)
+    if s * s != n:
+        return None
+    return ([s], [1])
+
+
+def whole_part_of_root(n):
+    """Give the greatest whole number whose square isn't above n, which isn't below 0."""
+    # From above, each step comes nearer, and none goes below what is looked for.
+    s = 1 << ((n.bit_length() + 1) // 2)
+    while s * s > n:
+        s = (s + n // s) // 2
+    return s
+
+
+def root_where_r_is_known(d, x, r):
+    """Do what root_of does where the last root is also a number with the roots ahead of it: r, up to its side of 0."""
+    half = len(x) // 2
+    p = r[0]
+    q = r[1]
+    # A number and the same below 0 have one square, but the root is the one above 0.
+    if side_of_zero(d, p) != side_of_zero(d, q):
+        q = scaled(q, -1)
+    # x is a + b p / q: times q q, it is a number with the roots ahead, and a square if x is.
+    q_x = total(product(d, q, x[:half]), product(d, p, x[half:]))
+    found = root_of(d, product(d, q, q_x))
+    if found is None:
+        return None
+    return (with_one_root_more(found[0]), with_one_root_more(product(d, q, found[1])))
+
+
+def root_of_plain(d, a):
+    """Do what root_of does for a with a further root r, which no number with the roots ahead is, and 0 beside it."""
+    found = root_of(d, a)
+    if found is not None:
+        return (with_one_root_more(found[0]), with_one_root_more(found[1]))
+    # Else only v r is left, of which the square is v v r r: so a r r is the square of v r r.
+    r_r = radicand(d, len(a))
+    found = root_of(d, product(d, a, r_r))
+    if found is None:
+        return None
+    return ([0] * len(a) + found[0], with_one_root_more(product(d, r_r, found[1])))
+
+
+def root_of_mixed(d, x):
+    """Do what root_of does for a + b r, where no number with the roots ahead is r, and b isn't 0."""
+    # The square of u + v r is (u u + v v r r) + (2 u v) r. Where that is a + b r, a a - b b r r is the square
+    # of n = u u - v v r r, and 2 u u is a + n. Of n only the square is known, so both n are tried.
+    n = root_of(d, norm(d, x))
+    if n is None:
+        return None
+    found = root_by_norm(d, x, n[0], n[1])
+    if found is None:
+        found = root_by_norm(d, x, scaled(n[0], -1), n[1])
+    return found
+
+
+def root_by_norm(d, x, p, q):
+    """Do what root_of_mixed does, for n being p / q."""
+    half = len(x) // 2
+    a = x[:half]
+    b = x[half:]
+    # 2 u u is a + p / q: so 2 q (q a + p) is the square of 2 q u.
+    found = root_of(d, scaled(product(d, q, total(product(d, q, a), p)), 2))
+    if found is None:
+        return None
+    # With 2 q u = s / t: u is s / (2 q t), and v, being b / (2 u), is b q t / s.
+    s = found[0]
+    q_t = product(d, q, found[1])
+    beside_root = scaled(product(d, b, product(d, q_t, q_t)), 2)
+    return (product(d, s, s) + beside_root, with_one_root_more(scaled(product(d, q_t, s), 2)))

@@ -3,10 +3,18 @@
 import contextlib
 import io
 import itertools
+import math
 from decimal import Decimal, localcontext
 
 SMALLEST = -2147483648
 GREATEST = 2147483647
+
+# Numbers of roots that are refused with whatever radicands and number stand beside them.
+WRONG_NUMBERS_OF_ROOTS = (-1, -2, -3, 4, 5, 20, 31, 32, 64, 1000000, SMALLEST, GREATEST)
+RADICANDS_AND_NUMBERS = (
+    ([], []), ([], [1]), ([2], [1, 1]), ([1] * 3, [1] * 4), ([1] * 7, [1] * 8), ([1] * 15, [1] * 16),
+    ([1] * 20, [1] * 20),
+)
 
 # A number that isn't 0 is here a whole algebraic number of degree 8 at most. Its conjugates are all
 # below 2 * 10^8, and their product is at least 1: so it is at least (2 * 10^8)^-7 away from 0, and
@@ -43,6 +51,138 @@ def expected_side(k, d, x):
         return [2] if value > 0 else [0]
 
 
+def powers_at(k, place):
+    """Give how often each of the k roots stands in the product that the part at this place goes with."""
+    return tuple(place >> j & 1 for j in range(k))
+
+
+def less_two(powers, j):
+    """Give the powers with the root j two times fewer."""
+    return tuple(power - 2 if i == j else power for i, power in enumerate(powers))
+
+
+def added(powers, others):
+    return tuple(p + q for p, q in zip(powers, others))
+
+
+def expected_product(k, d, x, y):
+    """Multiply out as polynomials in the roots, and only then put radicands for the squares of roots.
+
+    The last root goes first: its radicand brings in the roots ahead of it, never itself.
+    """
+    terms = {}
+    for p, q in itertools.product(range(2 ** k), repeat=2):
+        powers = added(powers_at(k, p), powers_at(k, q))
+        terms[powers] = terms.get(powers, 0) + x[p] * y[q]
+    for j in reversed(range(k)):
+        radicand = d[2 ** j - 1:2 ** (j + 1) - 1]
+        while any(powers[j] > 1 for powers in terms):
+            replaced = {}
+            for powers, factor in terms.items():
+                if powers[j] > 1:
+                    for place, part in enumerate(radicand):
+                        key = added(less_two(powers, j), powers_at(k, place))
+                        replaced[key] = replaced.get(key, 0) + factor * part
+                else:
+                    replaced[powers] = replaced.get(powers, 0) + factor
+            terms = replaced
+    return [0] + [terms.get(powers_at(k, place), 0) for place in range(2 ** k)]
+
+
+def complex_product(y, z):
+    return (y[0] * z[0] - y[1] * z[1], y[0] * z[1] + y[1] * z[0])
+
+
+def complex_quotient(y, z):
+    size = z[0] * z[0] + z[1] * z[1]
+    return complex_product(y, (z[0] / size, -z[1] / size))
+
+
+def complex_root(z):
+    """Give one of the two numbers whose square is z."""
+    size = (z[0] * z[0] + z[1] * z[1]).sqrt()
+    if size == 0:
+        return z
+    # What is taken the root of is the sum of two that are not below 0, so that no digits are lost.
+    greater = ((size + abs(z[0])) / 2).sqrt()
+    other = z[1] / (2 * greater)
+    return (greater, other) if z[0] >= 0 else (other, greater)
+
+
+def product_of_roots(roots, place):
+    result = (Decimal(1), Decimal(0))
+    for j, root in enumerate(roots):
+        if place >> j & 1:
+            result = complex_product(result, root)
+    return result
+
+
+def complex_value(parts, roots):
+    terms = [complex_product((Decimal(part), Decimal(0)), product_of_roots(roots, place))
+             for place, part in enumerate(parts)]
+    return (sum(term[0] for term in terms), sum(term[1] for term in terms))
+
+
+def conjugate_roots(k, d):
+    """Give all ways to choose, one root after another, one of the two roots of its radicand."""
+    rows = [[]]
+    for j in range(k):
+        longer = []
+        for roots in rows:
+            root = complex_root(complex_value(d[2 ** j - 1:2 ** (j + 1) - 1], roots))
+            longer.append(roots + [root])
+            longer.append(roots + [(-root[0], -root[1])])
+        rows = longer
+    return rows
+
+
+def root_by_conjugates(k, d, x):
+    """Give the whole parts of a number whose square is x, and what they are to be divided by; or None.
+
+    There are 0 to 2 roots, none of which may be a number with the roots ahead of it. Then the number has
+    2^k conjugates, each of them one of the two roots of the conjugate of x. A part of it is the mean of the
+    conjugates of the number divided by the product of roots that the part goes with. As the number is a whole
+    algebraic one, such a sum is whole once it is multiplied by the radicands and the radicands' conjugates.
+    So there are finitely many choices, and for each the parts are known from enough digits of them.
+    """
+    under = 2 ** k
+    if k > 0:
+        under *= d[0]
+    if k > 1:
+        under *= abs(d[1] * d[1] - d[0] * d[2] * d[2])
+    wanted = [0] + [under * under * part for part in x]
+    with localcontext() as context:
+        context.prec = DIGITS
+        rows = conjugate_roots(k, d)
+        values = [complex_root(complex_value(x, roots)) for roots in rows]
+        # shares[i][place] is what the i-th conjugate adds to the part; only what is real stays in the sum.
+        shares = [[complex_quotient(value, product_of_roots(roots, place))[0] * under / 2 ** k
+                   for place in range(2 ** k)] for value, roots in zip(values, rows)]
+        for sides in itertools.product((1, -1), repeat=2 ** k - 1):
+            parts = [int(sum(side * share for side, share in zip((1,) + sides, column)).to_integral_value())
+                     for column in zip(*shares)]
+            if expected_product(k, d, parts, parts) == wanted:
+                return parts, under
+    return None
+
+
+def expected_square(k, d, x):
+    """Give the answer of square for arguments that aren't refused, by conjugates."""
+    if k > 0 and math.isqrt(d[0]) ** 2 == d[0]:
+        root = math.isqrt(d[0])
+        rest = [d[1] + root * d[2]] if k > 1 else []
+        return expected_square(k - 1, rest, [a + root * b for a, b in zip(x[::2], x[1::2])])
+    if k > 1:
+        found = root_by_conjugates(1, d[:1], d[1:])
+        if found is not None:
+            parts, under = found
+            if expected_side(1, d[:1], parts) == [0]:
+                parts = negated(parts)
+            beside = expected_product(1, d[:1], x[2:], parts)[1:]
+            return expected_square(1, d[:1], [under * (under * a + b) for a, b in zip(x[:2], beside)])
+    return [0] if root_by_conjugates(k, d, x) is None else [1]
+
+
 def square_by_hand(p, q, s):
     """Give the square of a + b r + c t + e r t, where the roots r and t are those of p and q."""
     a, b, c, e = s
@@ -52,6 +192,12 @@ def square_by_hand(p, q, s):
         2 * (a * c + p * b * e),
         2 * (a * e + b * c),
     ]
+
+
+def unit(k, place, part=1):
+    row = [0] * 2 ** k
+    row[place] = part
+    return row
 
 
 def negated(x):

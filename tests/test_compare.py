@@ -3,7 +3,8 @@ import unittest
 
 from compasses.reach import compare, sign
 from tests.support import (
-    GREATEST, SMALLEST, Manners, expected_side, mixed_radicands, mixed_row, negated, square_by_hand, whole_numbers,
+    GREATEST, RADICANDS_AND_NUMBERS, SMALLEST, WRONG_NUMBERS_OF_ROOTS,
+    Manners, expected_side, mixed_radicands, mixed_row, negated, square_by_hand, whole_numbers,
 )
 
 X_IS_GREATER = [2]
@@ -177,9 +178,8 @@ class AgainstDecimalDigits(CompareCase):
 
 class NotAllowed(CompareCase):
     def test_number_of_roots(self):
-        for k in (-1, -2, -3, 4, 5, 20, 31, 32, 64, 1000000, SMALLEST, GREATEST):
-            for d, x in (([], []), ([], [1]), ([2], [1, 1]), ([1] * 7, [1] * 8), ([1] * 15, [1] * 16),
-                         ([1] * 20, [1] * 20)):
+        for k in WRONG_NUMBERS_OF_ROOTS:
+            for d, x in RADICANDS_AND_NUMBERS:
                 self.check(k, d, x, list(x), [-2])
 
     def test_length_of_the_radicands(self):

@@ -34,7 +34,7 @@ EXPRESSIONS = (
     ast.operator, ast.unaryop, ast.boolop, ast.cmpop, ast.expr_context,
 )
 
-OPERATORS_NOT_USED = (ast.Div, ast.MatMult, ast.Pow, ast.Is, ast.IsNot)
+OPERATORS_NOT_USED = (ast.Div, ast.MatMult, ast.Pow)
 
 
 def package_files():
@@ -70,6 +70,10 @@ class Form(unittest.TestCase):
                 self.assertEqual(node.decorator_list, [], place)
             if isinstance(node, ast.Attribute):
                 self.assertIn(node.attr, METHODS, place)
+            if isinstance(node, ast.Compare) and isinstance(node.ops[0], (ast.Is, ast.IsNot)):
+                self.assertEqual(ast.dump(node.comparators[0]), ast.dump(ast.Constant(None)), place)
+            if isinstance(node, ast.Compare) and len(node.ops) > 1:
+                self.assertFalse(any(isinstance(op, (ast.Is, ast.IsNot)) for op in node.ops), place)
 
     def test_names(self):
         for path, node in self.nodes():

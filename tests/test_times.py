@@ -3,54 +3,12 @@ import unittest
 
 from compasses.reach import compare, sign, times
 from tests.support import (
-    GREATEST, SMALLEST, Manners, mixed_radicands, mixed_row, negated, square_by_hand, whole_numbers,
+    GREATEST, RADICANDS_AND_NUMBERS, SMALLEST, WRONG_NUMBERS_OF_ROOTS,
+    Manners, expected_product, mixed_radicands, mixed_row, negated, square_by_hand, unit,
+    whole_numbers,
 )
 
 REFUSED = [-2]
-
-
-def powers_at(k, place):
-    """Give how often each of the k roots stands in the product that the part at this place goes with."""
-    return tuple(place >> j & 1 for j in range(k))
-
-
-def less_two(powers, j):
-    """Give the powers with the root j two times fewer."""
-    return tuple(power - 2 if i == j else power for i, power in enumerate(powers))
-
-
-def added(powers, others):
-    return tuple(p + q for p, q in zip(powers, others))
-
-
-def expected_product(k, d, x, y):
-    """Multiply out as polynomials in the roots, and only then put radicands for the squares of roots.
-
-    The last root goes first: its radicand brings in the roots ahead of it, never itself.
-    """
-    terms = {}
-    for p, q in itertools.product(range(2 ** k), repeat=2):
-        powers = added(powers_at(k, p), powers_at(k, q))
-        terms[powers] = terms.get(powers, 0) + x[p] * y[q]
-    for j in reversed(range(k)):
-        radicand = d[2 ** j - 1:2 ** (j + 1) - 1]
-        while any(powers[j] > 1 for powers in terms):
-            replaced = {}
-            for powers, factor in terms.items():
-                if powers[j] > 1:
-                    for place, part in enumerate(radicand):
-                        key = added(less_two(powers, j), powers_at(k, place))
-                        replaced[key] = replaced.get(key, 0) + factor * part
-                else:
-                    replaced[powers] = replaced.get(powers, 0) + factor
-            terms = replaced
-    return [0] + [terms.get(powers_at(k, place), 0) for place in range(2 ** k)]
-
-
-def unit(k, place, part=1):
-    row = [0] * 2 ** k
-    row[place] = part
-    return row
 
 
 class TimesCase(unittest.TestCase):
@@ -261,9 +219,8 @@ class AgainstPolynomials(TimesCase):
 
 class NotAllowed(TimesCase):
     def test_number_of_roots(self):
-        for k in (-1, -2, -3, 4, 5, 20, 31, 32, 64, 1000000, SMALLEST, GREATEST):
-            for d, x in (([], []), ([], [1]), ([2], [1, 1]), ([1] * 7, [1] * 8), ([1] * 15, [1] * 16),
-                         ([1] * 20, [1] * 20)):
+        for k in WRONG_NUMBERS_OF_ROOTS:
+            for d, x in RADICANDS_AND_NUMBERS:
                 self.check(k, d, x, list(x), REFUSED)
 
     def test_length_of_the_radicands(self):
