@@ -16,6 +16,10 @@ MOST_ROOTS = 3
 MOST_ROOTS_OF_SQUARE = 2
 FARTHEST_IN_RADICANDS = 100
 FARTHEST_IN_NUMBERS = 1000
+MOST_CORNERS = 1000000000
+
+# The primes that are a power of 2 and 1 more. If there is another, it lies far beyond MOST_CORNERS.
+FERMAT_PRIMES = (3, 5, 17, 257, 65537)
 
 
 def sign(k, d, x):
@@ -51,6 +55,22 @@ def square(k, d, x):
     if refusal != NO_REFUSAL:
         return [refusal]
     if root_of(d, x) is None:
+        return [0]
+    return [1]
+
+
+def polygon(n):
+    """Answer [1] if a regular polygon of n corners can be drawn, else [0]; or a refusal."""
+    if n < 1 or n > MOST_CORNERS:
+        return [NOT_ALLOWED]
+    # After Gauss and Wantzel: n may have each of these primes once, 2 however often, and nothing else.
+    rest = n
+    for prime in FERMAT_PRIMES:
+        if rest % prime == 0:
+            rest = rest // prime
+    while rest % 2 == 0:
+        rest = rest // 2
+    if rest > 1:
         return [0]
     return [1]
 

@@ -4,6 +4,7 @@ import contextlib
 import io
 import itertools
 import math
+import sys
 from decimal import Decimal, localcontext
 
 SMALLEST = -2147483648
@@ -225,6 +226,25 @@ def mixed_radicands(numbers, k, farthest):
     return row
 
 
+def check_steps(most, call):
+    """Make the call, and fail as soon as it has gone through more lines of the program than that."""
+    steps = 0
+
+    def count(frame, event, argument):
+        nonlocal steps
+        steps += event == "line"
+        if steps > most:
+            raise AssertionError(f"more than {most} steps")
+        return count
+
+    tracer = sys.gettrace()
+    sys.settrace(count)
+    try:
+        return call()
+    finally:
+        sys.settrace(tracer)
+
+
 def printed_by(call):
     """Give what the call writes to either stream."""
     out = io.StringIO()
@@ -244,11 +264,13 @@ class Untouchable(list):
     __setitem__ = __delitem__ = __iadd__ = __imul__ = refuse_change
 
 
-class Manners:
-    """What holds of each function, whatever it answers: for a test case that names the function and calls of it.
+def with_lists_as(kind, arguments):
+    """Give the arguments with each list copied into one of that kind."""
+    return [kind(argument) if isinstance(argument, list) else argument for argument in arguments]
 
-    The first argument of each call is a whole number, the others are lists.
-    """
+
+class Manners:
+    """What holds of each function, whatever it answers: for a test case that names the function and calls of it."""
 
     function = None
     CALLS = ()
@@ -276,11 +298,11 @@ class Manners:
         self.assertEqual(there, back[::-1])
 
     def test_what_is_handed_in_is_not_changed(self):
-        for k, *rows in self.CALLS:
-            plain = [list(row) for row in rows]
-            answer = self.function(k, *plain)
-            self.assertEqual(plain, rows)
-            self.assertEqual(self.function(k, *[Untouchable(row) for row in rows]), answer)
+        for call in self.CALLS:
+            plain = with_lists_as(list, call)
+            answer = self.function(*plain)
+            self.assertEqual(plain, list(call))
+            self.assertEqual(self.function(*with_lists_as(Untouchable, call)), answer)
 
     def test_nothing_is_printed(self):
         for call in self.CALLS:
