@@ -21,6 +21,13 @@ MOST_CORNERS = 1000000000
 # The primes that are a power of 2 and 1 more. If there is another, it lies far beyond MOST_CORNERS.
 FERMAT_PRIMES = (3, 5, 17, 257, 65537)
 
+NUMBERS_OF_CUBIC = 4
+NUMBERS_OF_QUARTIC = 5
+
+# At z so far from 0, a resolvent isn't 0 any more, as z z z outweighs what is added: with 2237 for m, the numbers
+# beside z z, beside z and by itself are no farther from 0 than m, m m and m m m, and z is no nearer than 2 m.
+FAR_ENOUGH = 4474
+
 
 def sign(k, d, x):
     """Answer [2] if x is above 0, [1] if it is 0, [0] if it is below; or a refusal."""
@@ -73,6 +80,15 @@ def polygon(n):
     if rest > 1:
         return [0]
     return [1]
+
+
+def root(p):
+    """Answer [1] if p(0) + p(1) x + p(2) x x + .. is 0 for some x that is reached, else [0]; or a refusal."""
+    if not is_cubic_or_quartic(p):
+        return [NOT_ALLOWED]
+    if is_zero_at_reached(p):
+        return [1]
+    return [0]
 
 
 def refusal_of(k, d, numbers):
@@ -275,3 +291,85 @@ def root_by_norm(d, x, p, q):
     q_t = product(d, q, found[1])
     beside_root = scaled(product(d, b, product(d, q_t, q_t)), 2)
     return (product(d, s, s) + beside_root, with_one_root_more(scaled(product(d, q_t, s), 2)))
+
+
+def is_cubic_or_quartic(p):
+    """Tell whether p has the length and the range that are asked for, and its last number isn't 0."""
+    if len(p) != NUMBERS_OF_CUBIC and len(p) != NUMBERS_OF_QUARTIC:
+        return False
+    return is_row(p, len(p), FARTHEST_IN_NUMBERS) and p[-1] != 0
+
+
+def is_zero_at_reached(p):
+    """Tell whether the cubic or quartic p is 0 at a number that is reached."""
+    if fraction_where_zero(p) is not None:
+        return True
+    # What is reached has a degree of 1, 2, 4, 8, ..; where such a cubic is 0, the degree is 3.
+    if len(p) == NUMBERS_OF_CUBIC:
+        return False
+    # By Galois: the swaps of the four places where p is 0, if they are 1, 2, 4 or 8 in number, leave some parting
+    # of the places into two pairs as it is. Then the resolvent is 0 at a fraction; else no place is reached.
+    z = fraction_where_zero(resolvent(p))
+    if z is None:
+        return False
+    return is_zero_somewhere(p, z[0])
+
+
+def fraction_where_zero(p):
+    """Give a fraction where p is 0, as the pair of what is above and what is below the stroke; or None."""
+    if p[0] == 0:
+        return (0, 1)
+    # In lowest terms, what is above divides the first number of p, and what is below the last one.
+    numbers_above = divisors(p[0])
+    for below in divisors(p[-1]):
+        for above in numbers_above:
+            if value_at(p, above, below) == 0:
+                return (above, below)
+            if value_at(p, -above, below) == 0:
+                return (-above, below)
+    return None
+
+
+def divisors(n):
+    """Give the whole numbers above 0 that divide n, which isn't 0, as far as they are needed."""
+    return [t for t in range(1, min(abs(n), FAR_ENOUGH) + 1) if n % t == 0]
+
+
+def value_at(p, above, below):
+    """Give what p is at the fraction above / below, times a power of below, so that it is whole."""
+    value = 0
+    power = 1
+    for part in reversed(p):
+        value = value * above + part * power
+        power = power * below
+    return value
+
+
+def resolvent(p):
+    """Give the cubic that is 0 at p(4) (s t + u v), where s, t, u, v in any order are where the quartic p is 0."""
+    return [
+        4 * p[0] * p[2] * p[4] - p[0] * p[3] * p[3] - p[1] * p[1] * p[4],
+        p[1] * p[3] - 4 * p[0] * p[4],
+        -p[2],
+        1,
+    ]
+
+
+def is_zero_somewhere(p, z):
+    """Tell whether the quartic p, which is 0 at no fraction, is 0 at all, where its resolvent is 0 at the whole z."""
+    a = p[4]
+    b = p[3]
+    # 4 a p is the square of 2 a x x + b x + z less m x x + 2 n x + w, where m w is n n as the resolvent is 0 at z.
+    m = b * b - 4 * a * p[2] + 4 * a * z
+    n = b * z - 2 * a * p[1]
+    w = z * z - 4 * a * p[0]
+    if m > 0:
+        # What is taken off is a square too. With t for the root of m, 4 a p is two quadratics multiplied, which are
+        # 2 a x x + (b + t) x + z + n / t and the same with -t; one is 0 somewhere if its discriminant isn't below 0.
+        # Of the discriminants, times m, this is the greater.
+        return side_of_zero([m], [m * (b * b + m - 8 * a * z), abs(8 * a * n - 2 * b * m)]) >= 0
+    if m == 0 and w >= 0:
+        # The same, with the root of w beside z.
+        return side_of_zero([w], [b * b - 8 * a * z, abs(8 * a)]) >= 0
+    # A square and something that isn't below 0: both are 0 together at a fraction at most.
+    return False

@@ -6,6 +6,7 @@ import itertools
 import math
 import sys
 from decimal import Decimal, localcontext
+from fractions import Fraction
 
 SMALLEST = -2147483648
 GREATEST = 2147483647
@@ -193,6 +194,125 @@ def square_by_hand(p, q, s):
         2 * (a * c + p * b * e),
         2 * (a * e + b * c),
     ]
+
+
+def multiplied(p, q):
+    """Multiply two polynomials out; the number by itself stands first."""
+    result = [0] * (len(p) + len(q) - 1)
+    for (i, left), (j, right) in itertools.product(enumerate(p), enumerate(q)):
+        result[i + j] += left * right
+    return result
+
+
+def polynomial_value(p, x):
+    return sum(part * x ** place for place, part in enumerate(p))
+
+
+def slope(p):
+    return [place * part for place, part in enumerate(p)][1:]
+
+
+def divided_out(p, q):
+    """Give how often q goes into p, and what is left, both as fractions; the last number of q isn't 0."""
+    rest = [Fraction(part) for part in p]
+    often = []
+    while len(rest) >= len(q):
+        factor = rest[-1] / q[-1]
+        often.insert(0, factor)
+        for place, part in enumerate(q):
+            rest[len(rest) - len(q) + place] -= factor * part
+        rest.pop()
+    while rest and rest[-1] == 0:
+        rest.pop()
+    return often, rest
+
+
+def in_whole_numbers(p):
+    """Give the fractions p all multiplied by one number, so that they are whole and have no divisor in common."""
+    under = math.lcm(*(Fraction(part).denominator for part in p))
+    whole = [int(part * under) for part in p]
+    return [part // math.gcd(*whole) for part in whole]
+
+
+def without_repeats(p):
+    """Give a polynomial that is 0 where p is, and each time only once."""
+    common, other = p, slope(p)
+    while other:
+        common, other = other, divided_out(common, other)[1]
+    return in_whole_numbers(divided_out(p, common)[0])
+
+
+def count_of_places(p):
+    """Count the real places where p is 0, each once, after Sturm."""
+    rows = [p, slope(p)]
+    while rows[-1]:
+        rows.append([-part for part in divided_out(rows[-2], rows[-1])[1]])
+    rows.pop()
+    far_above = [row[-1] > 0 for row in rows]
+    far_below = [(row[-1] > 0) == (len(row) % 2 == 1) for row in rows]
+    return changes(far_below) - changes(far_above)
+
+
+def changes(row):
+    return sum(left != right for left, right in zip(row, row[1:]))
+
+
+def complex_places(p):
+    """Come near to all the places where p is 0, after Durand and Kerner; no two of them may be one."""
+    size = 1 + max(abs(part) for part in p) / abs(p[-1])
+    places = [size * (0.4 + 0.9j) ** power for power in range(1, len(p))]
+    for turn in range(1000):
+        before = list(places)
+        for i, place in enumerate(places):
+            others = math.prod((place - other for other in places[:i] + places[i + 1:]), start=complex(p[-1]))
+            places[i] = place - polynomial_value(p, place) / others
+        if max(abs(place - old) for place, old in zip(places, before)) < 1e-14 * size:
+            break
+    return places
+
+
+def factors_of(p):
+    """Take p, which is 0 nowhere twice, apart as far as whole numbers go.
+
+    The places where a factor is 0 are some of those where p is. Multiplied by the last number of p, a factor that
+    begins with 1 has whole numbers: near enough to them they are known, and whether it is one is tried exactly.
+    """
+    for size in range(1, (len(p) - 1) // 2 + 1):
+        for chosen in itertools.combinations(complex_places(p), size):
+            factor = [complex(p[-1])]
+            for place in chosen:
+                factor = multiplied(factor, [-place, 1])
+            whole = [round(part.real) for part in factor]
+            often, rest = divided_out(p, whole)
+            if rest == []:
+                return factors_of(in_whole_numbers(whole)) + factors_of(in_whole_numbers(often))
+    return [p]
+
+
+PRIMES = [n for n in range(2, 300) if all(n % divisor for divisor in range(2, n))]
+
+
+def moves_three(p):
+    """Tell whether some prime shows that the places where the quartic p is 0 can be swapped three in a ring.
+
+    So it is where p, by remainders of the prime, has one place alone where it is 0, and that once: then three others
+    come in a ring. Where there are such swaps, of every three primes, on the whole, one or two show them.
+    """
+    for prime in PRIMES:
+        if p[-1] % prime > 0:
+            places = [x for x in range(prime) if polynomial_value(p, x) % prime == 0]
+            if len(places) == 1 and polynomial_value(slope(p), places[0]) % prime > 0:
+                return True
+    return False
+
+
+def expected_root(p):
+    """Give the answer of root for p that isn't refused, by its factors and by remainders of primes."""
+    for factor in factors_of(without_repeats(p)):
+        degree = len(factor) - 1
+        if degree != 3 and count_of_places(factor) > 0 and not (degree == 4 and moves_three(factor)):
+            return [1]
+    return [0]
 
 
 def unit(k, place, part=1):
