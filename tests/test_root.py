@@ -469,8 +469,8 @@ class AgainstFactorsAndRemainders(RootCase):
                 self.check_expected(list(p))
 
     def test_pairs_of_places_with_great_products(self):
-        # Of the three ways to part the places of these into pairs, one alone gives a whole number, of 1974 or 2000, when
-        # the products of the pairs are added up and multiplied by the last number.
+        # Of the three ways to part the places of these into pairs, one alone gives a whole number, of 1974 to 2000,
+        # when the products of the pairs are added up and multiplied by the last number.
         far_off = ([1000, 1000, -1000, 1000, 1000], [1000, 997, -993, 997, 1000], [987, 987, -756, 420, 960])
         self.check(REACHED, *far_off)
         for p in far_off + ([981, 976, 498, -976, 981], [986, -860, 539, 969, 946], [987, 841, 902, -927, 825]):
